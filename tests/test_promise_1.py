@@ -1,0 +1,101 @@
+"""start, hold, leak."""
+
+import unittest
+
+from asking import LARGEST, Refusals, ask, held, kept, lacks, last, played, seen
+
+THREE = (("start", [5, 8, 6]), ("leak", [1, 2, 3]), ("hold", [2, 7, 3]), ("fill", 1), ("draw", 2), ("bleed", 1, 1))
+
+
+class Start(Refusals, unittest.TestCase):
+    def test_answers_how_many_groups(self):
+        for count in range(1, 11):
+            self.assertEqual(last(("start", [9] * count)), [count])
+            self.assertEqual(last(("start", [9] * count), ("evens",)), [count] + [0] * count)
+
+    def test_groups_are_empty_and_have_these_rooms(self):
+        self.assertEqual(seen(("start", [5, 8, 6])), ([0, 0, 0], [5, 8, 6], [5]))
+
+    def test_how_many_rooms(self):
+        for count in (0, 11, 12, 59, 60):
+            self.refuses(-22, THREE, ("start", [5] * count))
+
+    def test_edges_of_a_room(self):
+        for room in (1, 2, 9999, 10000):
+            self.assertEqual(ask(("start", [room]), ("most",)), [[1], [room]])
+        for room in (0, 10001, LARGEST):
+            for place in range(3):
+                rooms = [5, 5, 5]
+                rooms[place] = room
+                self.refuses(-22, THREE, ("start", rooms))
+
+    def test_a_wrong_room_among_ten(self):
+        self.assertEqual(last(("start", [10000] * 10)), [10])
+        self.refuses(-22, THREE, ("start", [10000] * 9 + [10001]))
+        self.refuses(-22, THREE, ("start", [0] + [10000] * 9))
+
+    def test_a_second_start_is_as_a_first(self):
+        self.assertEqual(kept(*THREE, ("start", [4, 9])), kept(("start", [4, 9])))
+        self.assertEqual(seen(*THREE, ("start", [4, 9])), ([0, 0], [4, 9], [4]))
+        self.assertEqual(played(*THREE, ("start", [4, 9])).leaks, [0, 0])
+
+
+class Hold(Refusals, unittest.TestCase):
+    def test_answers_how_many_units(self):
+        self.assertEqual(last(("start", [5, 8, 6]), ("hold", [2, 7, 3])), [12])
+        self.assertEqual(last(("start", [10000] * 10), ("hold", [10000] * 10)), [100000])
+        self.assertEqual(last(("start", [5]), ("hold", [0])), [0])
+
+    def test_groups_hold_these(self):
+        self.assertEqual(seen(("start", [5, 8, 6]), ("hold", [2, 7, 3])), ([2, 7, 3], [3, 1, 3], [5]))
+
+    def test_replaces_what_was_held(self):
+        self.assertEqual(held(*THREE, ("hold", [5, 0, 1])), [5, 0, 1])
+
+    def test_how_many_there_are(self):
+        for count in (0, 1, 2, 4, 10, 11, 60):
+            self.refuses(-22, THREE, ("hold", [1] * count))
+
+    def test_ten_groups(self):
+        ten = (("start", [3] * 10),)
+        self.assertEqual(last(*ten, ("hold", [1] * 10)), [10])
+        self.refuses(-22, ten, ("hold", [1] * 9))
+        self.refuses(-22, ten, ("hold", [1] * 11))
+
+    def test_as_much_as_its_room_and_one_more(self):
+        self.assertEqual(last(*THREE, ("hold", [5, 8, 6])), [19])
+        for wrong in ([6, 8, 6], [5, 9, 6], [5, 8, 7], [LARGEST, 0, 0], [0, 0, LARGEST]):
+            self.refuses(-22, THREE, ("hold", wrong))
+
+    def test_it_is_all_there_ever_was_put_in(self):
+        pack = played(*THREE, ("bleeds", 5), ("hold", [1, 2, 3]))
+        self.assertEqual((pack.put_in, pack.filled, pack.drawn, pack.bled, pack.leaked), (6, 0, 0, 0, 0))
+
+    def test_leaks_stay(self):
+        self.assertEqual(played(*THREE, ("hold", [0, 0, 0])).leaks, [1, 2, 3])
+
+
+class Leak(Refusals, unittest.TestCase):
+    def test_answers_nought(self):
+        for leaks in ([0, 0, 0], [1, 2, 3], [1000, 1000, 1000], [1000, 0, 999]):
+            self.assertEqual(last(*THREE, ("leak", leaks)), [0])
+            self.assertEqual(played(*THREE, ("leak", leaks)).leaks, leaks)
+
+    def test_nothing_is_lost_at_once(self):
+        self.assertEqual(seen(*THREE, ("leak", [1000, 1000, 1000])), seen(*THREE))
+
+    def test_how_many_there_are(self):
+        for count in (0, 1, 2, 4, 10, 11, 60):
+            self.refuses(-22, THREE, ("leak", [1] * count))
+
+    def test_above_a_thousand(self):
+        for wrong in ([1001, 0, 0], [0, 1001, 0], [0, 0, 1001], [0, LARGEST, 0]):
+            self.refuses(-22, THREE, ("leak", wrong))
+
+    def test_a_leak_may_be_above_its_room(self):
+        self.assertEqual(last(("start", [1]), ("leak", [1000])), [0])
+        self.assertEqual(lacks(("start", [1]), ("leak", [1000])), [1])
+
+
+if __name__ == "__main__":
+    unittest.main()
