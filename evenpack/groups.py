@@ -31,14 +31,27 @@ class Pack:
         self.leaks = list(leaks)
 
     def lacks(self):
-        return [room - holds for room, holds in zip(self.rooms, self.held)]
+        return self.lacks_holding(self.held)
+
+    def lacks_holding(self, held):
+        return [room - holds for room, holds in zip(self.rooms, held)]
 
     def gives(self):
+        return self.gives_holding(self.held)
+
+    def gives_holding(self, held):
         # Filled, each gains the least lack; so the one that holds least now is the first to be empty then.
-        return min(self.held) + min(self.lacks())
+        return min(held) + min(self.lacks_holding(held))
 
     def most(self):
         return min(self.rooms)
+
+    def most_with(self, group, room):
+        """The most it could give, were this group's room another."""
+        return min([room if other == group else own for other, own in enumerate(self.rooms)])
+
+    def units(self):
+        return [sum(self.held), self.put_in, self.filled, self.drawn, self.bled, self.leaked]
 
     def fill(self, n):
         got = min(n, min(self.lacks()))
@@ -75,3 +88,33 @@ class Pack:
         """What each must bleed so that the pack gives t, which is no more than the most it could give."""
         # The mark is never above the least room, so every group holds what it is to bleed.
         return self.amounts_to_lack(max(min(self.lacks()), t - min(self.held)))
+
+    def held_after(self, days):
+        # A group that has run empty loses nothing more, so many days at once are the same as one behind another.
+        return [max(0, holds - loses * days) for holds, loses in zip(self.held, self.leaks)]
+
+    def lose(self, days):
+        """Let days go by: how many units were lost."""
+        after = self.held_after(days)
+        units = sum(self.held) - sum(after)
+        self.held = after
+        self.leaked = self.leaked + units
+        return units
+
+    def days_till_below(self, t, limit):
+        """In how many days, at most limit, it gives less than t; None if in none of them."""
+        # What it gives may rise before it falls, as the fullest group's leak makes room: so each day is looked at.
+        for days in range(limit + 1):
+            if self.gives_holding(self.held_after(days)) < t:
+                return days
+        return None
+
+    def swap(self, group, room, holds):
+        """Exchange a group for one without a leak: what the old one held."""
+        old = self.held[group]
+        self.rooms[group] = room
+        self.held[group] = holds
+        self.leaks[group] = 0
+        self.drawn = self.drawn + old
+        self.put_in = self.put_in + holds
+        return old

@@ -14,12 +14,21 @@ MOST_GROUPS = 10
 MOST_ROOM = 10000
 MOST_LEAK = 1000
 MOST_MOVED = 100000
+MOST_DAYS = 1000
+
+
+def is_room(number):
+    return 1 <= number and number <= MOST_ROOM
+
+
+def is_group(pack, number):
+    return number < len(pack.rooms)
 
 
 def start(pack, rooms):
     if len(rooms) < 1 or len(rooms) > MOST_GROUPS:
         return [NOT_AS_TOLD]
-    if any([room < 1 or room > MOST_ROOM for room in rooms]):
+    if not all([is_room(room) for room in rooms]):
         return [NOT_AS_TOLD]
     pack.begin(rooms)
     return [len(rooms)]
@@ -62,7 +71,7 @@ def draw(pack, numbers):
 def bleed(pack, numbers):
     group = numbers[0]
     n = numbers[1]
-    if group >= len(pack.rooms):
+    if not is_group(pack, group):
         return [NO_SUCH_GROUP]
     if n == 0:
         return [NOT_AS_TOLD]
@@ -105,6 +114,84 @@ def most(pack, numbers):
     return [pack.most()]
 
 
+def lacks(pack, numbers):
+    amounts = pack.lacks()
+    return [len(amounts)] + amounts
+
+
+def least_and_first(amounts):
+    least = min(amounts)
+    return [least, amounts.index(least)]
+
+
+def weakest(pack, numbers):
+    return least_and_first(pack.held)
+
+
+def fullest(pack, numbers):
+    return least_and_first(pack.lacks())
+
+
+def days(pack, numbers):
+    n = numbers[0]
+    if n < 1 or n > MOST_DAYS:
+        return [NOT_AS_TOLD]
+    return [pack.lose(n)]
+
+
+def when(pack, numbers):
+    till = pack.days_till_below(numbers[0], MOST_DAYS)
+    if till is None:
+        return [OUT_OF_REACH]
+    return [till]
+
+
+def swap(pack, numbers):
+    group = numbers[0]
+    room = numbers[1]
+    holds = numbers[2]
+    if not is_group(pack, group):
+        return [NO_SUCH_GROUP]
+    if not is_room(room) or holds > room:
+        return [NOT_AS_TOLD]
+    return [pack.swap(group, room, holds)]
+
+
+def gain(pack, numbers):
+    group = numbers[0]
+    room = numbers[1]
+    if not is_group(pack, group):
+        return [NO_SUCH_GROUP]
+    if not is_room(room):
+        return [NOT_AS_TOLD]
+    return [pack.most_with(group, room) - pack.most()]
+
+
+def best(pack, numbers):
+    room = numbers[0]
+    if not is_room(room):
+        return [NOT_AS_TOLD]
+    mosts = [pack.most_with(group, room) for group in range(len(pack.rooms))]
+    if max(mosts) <= pack.most():
+        return [OUT_OF_REACH]
+    return [mosts.index(max(mosts)), max(mosts)]
+
+
+def units(pack, numbers):
+    return pack.units()
+
+
+def look(pack, numbers):
+    group = numbers[0]
+    if not is_group(pack, group):
+        return [NO_SUCH_GROUP]
+    return [pack.held[group], pack.rooms[group], pack.leaks[group]]
+
+
+def state(pack, numbers):
+    return [len(pack.rooms), pack.gives(), pack.most()]
+
+
 ANSWERED_BY = {
     0: start,
     1: hold,
@@ -118,11 +205,25 @@ ANSWERED_BY = {
     9: bleeds,
     10: gives,
     11: most,
+    12: lacks,
+    13: weakest,
+    14: fullest,
+    15: days,
+    16: when,
+    17: swap,
+    18: gain,
+    19: best,
+    20: units,
+    21: look,
+    22: state,
 }
 
 # Calls that have one row; all others have as many whole numbers as told below.
 WITH_A_ROW = (0, 1, 2)
-WHOLE_NUMBERS = {3: 1, 4: 1, 5: 2, 6: 0, 7: 0, 8: 1, 9: 1, 10: 0, 11: 0}
+WHOLE_NUMBERS = {
+    3: 1, 4: 1, 5: 2, 6: 0, 7: 0, 8: 1, 9: 1, 10: 0, 11: 0, 12: 0,
+    13: 0, 14: 0, 15: 1, 16: 1, 17: 3, 18: 2, 19: 1, 20: 0, 21: 1, 22: 0,
+}
 
 
 def answer(pack, call, numbers):

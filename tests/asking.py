@@ -1,11 +1,12 @@
 """What the tests share: calls by name, answers call by call, and what can be seen of a pack."""
 
-from evenpack.groups import Pack
-from evenpack.packs import answer, answers
+from evenpack.packs import answers
 
 NUMBER_OF = {
     "start": 0, "hold": 1, "leak": 2, "fill": 3, "draw": 4, "bleed": 5,
     "even": 6, "evens": 7, "reach": 8, "bleeds": 9, "gives": 10, "most": 11,
+    "lacks": 12, "weakest": 13, "fullest": 14, "days": 15, "when": 16, "swap": 17,
+    "gain": 18, "best": 19, "units": 20, "look": 21, "state": 22,
 }
 LARGEST = 4294967295
 
@@ -61,17 +62,23 @@ def seen(*calls):
     return held(*calls), lacks(*calls), last(*calls, ("most",))
 
 
-def played(*calls):
-    """The pack itself after these calls, for what no call of these shows."""
-    pack = Pack()
-    for name, *rest in calls:
-        numbers = list(rest[0]) if rest and isinstance(rest[0], list) else list(rest)
-        answer(pack, NUMBER_OF[name], numbers)
-    return pack
+def looks(*calls):
+    """What each group holds, its room and its leak after these calls."""
+    count = last(*calls, ("state",))[0]
+    return ask(*calls, *[("look", i) for i in range(count)])[len(calls):]
+
+
+def leaks(*calls):
+    return [look[2] for look in looks(*calls)]
+
+
+def units(*calls):
+    return last(*calls, ("units",))
 
 
 def kept(*calls):
-    return dict(vars(played(*calls)))
+    """All that calls can show of what is kept after these calls."""
+    return looks(*calls), units(*calls)
 
 
 class Refusals:
@@ -80,4 +87,7 @@ class Refusals:
     def refuses(self, number, before, call):
         self.assertEqual(last(*before, call), [number], call)
         self.assertEqual(seen(*before, call), seen(*before), call)
+        self.assertEqual(kept(*before, call), kept(*before), call)
+
+    def changes_nothing(self, before, call):
         self.assertEqual(kept(*before, call), kept(*before), call)

@@ -1,16 +1,23 @@
 import unittest
 
-from asking import LARGEST, ask
+from asking import LARGEST, NUMBER_OF, ask
 
 OTHERS = (
     ("hold", [1]), ("hold", []), ("hold", [0] * 60), ("leak", [1]), ("leak", []), ("leak", [LARGEST] * 60),
     ("fill", 1), ("fill", 0), ("fill", LARGEST), ("draw", 1), ("draw", 0), ("draw", LARGEST),
     ("bleed", 0, 1), ("bleed", 0, 0), ("bleed", LARGEST, LARGEST), ("even",), ("evens",),
     ("reach", 0), ("reach", LARGEST), ("bleeds", 0), ("bleeds", LARGEST), ("gives",), ("most",),
+    ("lacks",), ("weakest",), ("fullest",), ("days", 1), ("days", 0), ("days", LARGEST), ("when", 0), ("when", LARGEST),
+    ("swap", 0, 1, 1), ("swap", 0, 0, 0), ("swap", LARGEST, LARGEST, LARGEST), ("gain", 0, 1), ("gain", 0, 0),
+    ("gain", LARGEST, LARGEST), ("best", 1), ("best", 0), ("best", LARGEST), ("units",), ("look", 0),
+    ("look", LARGEST), ("state",),
 )
 
 
 class BeforeStart(unittest.TestCase):
+    def test_no_call_is_left_out(self):
+        self.assertEqual({call[0] for call in OTHERS}, set(NUMBER_OF) - {"start"})
+
     def test_each_other_call_alone(self):
         for call in OTHERS:
             self.assertEqual(ask(call), [[-11]], call)

@@ -2,9 +2,11 @@
 
 import unittest
 
-from asking import LARGEST, Refusals, ask, held, kept, lacks, last, played, seen
+from asking import LARGEST, Refusals, ask, held, kept, lacks, last, leaks, seen, units
 
 THREE = (("start", [5, 8, 6]), ("leak", [1, 2, 3]), ("hold", [2, 7, 3]), ("fill", 1), ("draw", 2), ("bleed", 1, 1))
+# Every way in which units come and go: none of the six numbers of units is 0 then.
+ALL_MOVED = THREE + (("fill", 1), ("bleeds", 5), ("days", 1), ("swap", 0, 6, 4))
 
 
 class Start(Refusals, unittest.TestCase):
@@ -37,7 +39,17 @@ class Start(Refusals, unittest.TestCase):
     def test_a_second_start_is_as_a_first(self):
         self.assertEqual(kept(*THREE, ("start", [4, 9])), kept(("start", [4, 9])))
         self.assertEqual(seen(*THREE, ("start", [4, 9])), ([0, 0], [4, 9], [4]))
-        self.assertEqual(played(*THREE, ("start", [4, 9])).leaks, [0, 0])
+        self.assertEqual(leaks(*THREE, ("start", [4, 9])), [0, 0])
+
+    def test_a_second_start_begins_the_units_anew(self):
+        self.assertNotIn(0, units(*ALL_MOVED))
+        self.assertEqual(units(*ALL_MOVED, ("start", [4, 9])), [0, 0, 0, 0, 0, 0])
+        self.assertEqual(kept(*ALL_MOVED, ("start", [4, 9])), kept(("start", [4, 9])))
+        self.assertEqual(last(*ALL_MOVED, ("start", [4, 9]), ("hold", [4, 9]), ("days", 1000)), [0])
+
+    def test_a_refused_second_start_leaves_the_units(self):
+        for rooms in ([], [0, 5, 5], [5] * 11):
+            self.refuses(-22, ALL_MOVED, ("start", rooms))
 
 
 class Hold(Refusals, unittest.TestCase):
@@ -68,18 +80,29 @@ class Hold(Refusals, unittest.TestCase):
             self.refuses(-22, THREE, ("hold", wrong))
 
     def test_it_is_all_there_ever_was_put_in(self):
-        pack = played(*THREE, ("bleeds", 5), ("hold", [1, 2, 3]))
-        self.assertEqual((pack.put_in, pack.filled, pack.drawn, pack.bled, pack.leaked), (6, 0, 0, 0, 0))
+        self.assertNotIn(0, units(*ALL_MOVED))
+        self.assertEqual(units(*ALL_MOVED, ("hold", [1, 2, 3])), [6, 6, 0, 0, 0, 0])
+        self.assertEqual(units(*ALL_MOVED, ("hold", [0, 0, 0])), [0, 0, 0, 0, 0, 0])
+
+    def test_a_refused_hold_leaves_the_units(self):
+        for wrong in ([1, 2], [1, 2, 3, 4], [7, 0, 0], [0, 9, 0]):
+            self.refuses(-22, ALL_MOVED, ("hold", wrong))
 
     def test_leaks_stay(self):
-        self.assertEqual(played(*THREE, ("hold", [0, 0, 0])).leaks, [1, 2, 3])
+        self.assertEqual(leaks(*THREE, ("hold", [0, 0, 0])), [1, 2, 3])
+
+    def test_the_room_is_that_of_the_group_that_is_there_now(self):
+        swapped = THREE + (("swap", 0, 9, 0), ("swap", 1, 2, 2))
+        self.assertEqual(last(*swapped, ("hold", [9, 2, 6])), [17])
+        self.refuses(-22, swapped, ("hold", [9, 3, 6]))
+        self.refuses(-22, swapped, ("hold", [10, 2, 6]))
 
 
 class Leak(Refusals, unittest.TestCase):
     def test_answers_nought(self):
-        for leaks in ([0, 0, 0], [1, 2, 3], [1000, 1000, 1000], [1000, 0, 999]):
-            self.assertEqual(last(*THREE, ("leak", leaks)), [0])
-            self.assertEqual(played(*THREE, ("leak", leaks)).leaks, leaks)
+        for amounts in ([0, 0, 0], [1, 2, 3], [1000, 1000, 1000], [1000, 0, 999]):
+            self.assertEqual(last(*THREE, ("leak", amounts)), [0])
+            self.assertEqual(leaks(*THREE, ("leak", amounts)), amounts)
 
     def test_nothing_is_lost_at_once(self):
         self.assertEqual(seen(*THREE, ("leak", [1000, 1000, 1000])), seen(*THREE))

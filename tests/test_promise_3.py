@@ -1,4 +1,4 @@
-"""reach, bleeds, gives, most."""
+"""reach, bleeds, gives, most, lacks, weakest, fullest."""
 
 import unittest
 
@@ -85,6 +85,64 @@ class ReachAndBleeds(Refusals, unittest.TestCase):
         alike = (("start", [7] * 4), ("hold", [4] * 4))
         self.assertEqual(ask(*alike, ("reach", 7), ("bleeds", 7))[2:], [[0], [0]])
         self.assertEqual(held(*alike, ("bleeds", 7)), [4] * 4)
+
+
+class Lacks(Refusals, unittest.TestCase):
+    def test_what_each_lacks(self):
+        self.assertEqual(last(*THREE, ("lacks",)), [3, 3, 1, 4])
+        self.assertEqual(last(*THREE, ("fill", 1), ("lacks",)), [3, 2, 0, 3])
+        self.assertEqual(last(*THREE, ("bleed", 2, 3), ("lacks",)), [3, 3, 1, 7])
+
+    def test_it_changes_nothing(self):
+        self.changes_nothing(THREE, ("lacks",))
+
+    def test_full_and_empty(self):
+        self.assertEqual(last(("start", [5, 10000, 1]), ("lacks",)), [3, 5, 10000, 1])
+        self.assertEqual(last(("start", [5, 10000, 1]), ("hold", [5, 10000, 0]), ("lacks",)), [3, 0, 0, 1])
+
+    def test_one_group_and_ten(self):
+        self.assertEqual(last(("start", [7]), ("hold", [3]), ("lacks",)), [1, 4])
+        ten = (("start", [20] * 10), ("hold", list(range(10))))
+        self.assertEqual(last(*ten, ("lacks",)), [10, 20, 19, 18, 17, 16, 15, 14, 13, 12, 11])
+
+
+class WeakestAndFullest(Refusals, unittest.TestCase):
+    def test_how_much_then_which(self):
+        pack = (("start", [6, 8, 7]), ("hold", [4, 7, 3]))
+        self.assertEqual(ask(*pack, ("weakest",), ("fullest",))[2:], [[3, 2], [1, 1]])
+
+    def test_each_place(self):
+        for place in range(10):
+            weak = [2 if i == place else 9 for i in range(10)]
+            self.assertEqual(last(("start", [10] * 10), ("hold", weak), ("weakest",)), [2, place])
+            full = [8 if i == place else 3 for i in range(10)]
+            self.assertEqual(last(("start", [10] * 10), ("hold", full), ("fullest",)), [2, place])
+
+    def test_the_first_of_several(self):
+        self.assertEqual(last(*THREE, ("weakest",)), [3, 0])
+        self.assertEqual(last(("start", [9] * 4), ("hold", [5, 2, 4, 2]), ("weakest",)), [2, 1])
+        self.assertEqual(last(("start", [9] * 4), ("hold", [5, 8, 4, 8]), ("fullest",)), [1, 1])
+        self.assertEqual(last(("start", [9, 8, 7, 6]), ("hold", [5, 6, 5, 4]), ("fullest",)), [2, 1])
+
+    def test_groups_alike(self):
+        alike = (("start", [7] * 10), ("hold", [4] * 10))
+        self.assertEqual(ask(*alike, ("weakest",), ("fullest",))[2:], [[4, 0], [3, 0]])
+
+    def test_one_may_be_both(self):
+        self.assertEqual(ask(("start", [9, 2]), ("hold", [4, 2]), ("weakest",), ("fullest",))[2:], [[2, 1], [0, 1]])
+
+    def test_one_group(self):
+        for holds in (0, 3, 5):
+            given = ask(("start", [5]), ("hold", [holds]), ("weakest",), ("fullest",))[2:]
+            self.assertEqual(given, [[holds, 0], [5 - holds, 0]])
+
+    def test_full_and_empty(self):
+        corner = (("start", [10000, 10000]), ("hold", [10000, 0]))
+        self.assertEqual(ask(*corner, ("weakest",), ("fullest",))[2:], [[0, 1], [0, 0]])
+
+    def test_they_change_nothing(self):
+        self.changes_nothing(THREE, ("weakest",))
+        self.changes_nothing(THREE, ("fullest",))
 
 
 if __name__ == "__main__":
