@@ -1,4 +1,4 @@
-"""Many lists of calls of all 23 kinds, against a pack after the words of the document."""
+"""Many lists of calls of all 23 kinds, against the pack of slow.py."""
 
 import unittest
 
